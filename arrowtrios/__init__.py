@@ -1,0 +1,1 @@
+"""Arrowtrios: three places whose arrows change by turns."""

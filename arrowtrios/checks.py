@@ -1,0 +1,38 @@
+"""Checks of values that callers give, for all modules."""
+
+from arrowtrios.errors import InvalidTurns
+from arrowtrios.limits import MOST_LETTERS, MOST_PAIRS, MOST_TIMES
+from arrowtrios.words import PLACE_OF
+
+
+def is_integer(value):
+    """Tell whether a value is an integer; True and False are none."""
+    return isinstance(value, int) and not isinstance(value, bool)
+
+
+def is_integer_within(value, least, most):
+    """Tell whether a value is an integer from the least to the most."""
+    return is_integer(value) and least <= value <= most
+
+
+def is_word(value):
+    """Tell whether a value is a word of a row of turns."""
+    if not isinstance(value, str) or not 1 <= len(value) <= MOST_LETTERS:
+        return False
+    return all([letter in PLACE_OF for letter in value])
+
+
+def is_pair_of_turns(value):
+    """Tell whether a value is a pair of a row of turns."""
+    if not isinstance(value, tuple) or len(value) != 2:
+        return False
+    return is_word(value[0]) and is_integer_within(value[1], 0, MOST_TIMES)
+
+
+def check_turns(turns):
+    """Raise InvalidTurns if a value is no row of turns."""
+    if not isinstance(turns, tuple):
+        raise InvalidTurns(None)
+    for index, pair in enumerate(turns):
+        if index >= MOST_PAIRS or not is_pair_of_turns(pair):
+            raise InvalidTurns(index)

@@ -1,0 +1,83 @@
+"""The interface as the document lists it, and what can be counted of the language's rules."""
+
+import ast
+import importlib
+import inspect
+import pathlib
+import unittest
+
+PACKAGE = pathlib.Path(__file__).resolve().parent.parent / "arrowtrios"
+
+# module: {function or class or method: names of its parameters}
+INTERFACE = {
+    "standings": {
+        "Standing": ["x", "y", "z"],
+        "turned": ["standing", "turns"],
+        "length": ["turns"],
+        "renamed": ["standing", "naming"],
+    },
+}
+
+PROPERTIES = {("standings", "Standing"): ["numbers", "sizes", "is_ring", "mark"]}
+
+
+class InterfaceTest(unittest.TestCase):
+    def test_names_and_parameters(self):
+        for module_name, names in INTERFACE.items():
+            module = importlib.import_module(f"arrowtrios.{module_name}")
+            for name, parameters in names.items():
+                with self.subTest(module=module_name, name=name):
+                    thing = getattr(module, name)
+                    self.assertEqual(list(inspect.signature(thing).parameters), parameters)
+                    self.assertEqual(thing.__module__, module.__name__)
+
+    def test_properties_stand_in_the_class_itself(self):
+        for (module_name, class_name), names in PROPERTIES.items():
+            members = vars(getattr(importlib.import_module(f"arrowtrios.{module_name}"), class_name))
+            for name in names:
+                with self.subTest(name=name):
+                    self.assertIsInstance(members[name], property)
+
+
+class LanguageTest(unittest.TestCase):
+    def files(self):
+        for path in sorted(PACKAGE.rglob("*")):
+            if "__pycache__" not in path.parts:
+                yield path, path.read_text(encoding="utf-8")
+
+    def test_only_files_of_the_language(self):
+        for path, _ in self.files():
+            self.assertEqual(path.suffix, ".py")
+        self.assertTrue((PACKAGE / "__init__.py").exists())
+
+    def test_sizes_and_characters(self):
+        for path, text in self.files():
+            with self.subTest(path=path.name):
+                self.assertLessEqual(len(text.splitlines()), 399)
+                self.assertLessEqual(max(map(len, text.splitlines())), 120)
+                self.assertTrue(all(" " <= letter <= "~" or letter == "\n" for letter in text))
+                for node in ast.walk(ast.parse(text)):
+                    if isinstance(node, ast.FunctionDef):
+                        self.assertLessEqual(node.end_lineno - node.lineno + 1, 40, node.name)
+
+    def test_exponents_and_values(self):
+        for path, text in self.files():
+            with self.subTest(path=path.name):
+                for node in ast.walk(ast.parse(text)):
+                    if isinstance(node, ast.BinOp) and isinstance(node.op, ast.Pow):
+                        self.assertIn(node.right.value, range(65))
+                    self.assertFalse(isinstance(node, ast.BinOp) and isinstance(node.op, ast.Div))
+                    if isinstance(node, ast.Constant):
+                        self.assertNotIsInstance(node.value, float)
+                        self.assertFalse(isinstance(node.value, str) and "%" in node.value)
+
+    def test_imports_come_from_the_package_alone(self):
+        for path, text in self.files():
+            for node in ast.walk(ast.parse(text)):
+                self.assertNotIsInstance(node, ast.Import, path.name)
+                if isinstance(node, ast.ImportFrom):
+                    self.assertTrue(node.module.startswith("arrowtrios."), path.name)
+
+
+if __name__ == "__main__":
+    unittest.main()
