@@ -1,7 +1,7 @@
 """Checks of values that callers give, for all modules."""
 
-from arrowtrios.errors import InvalidTurns
-from arrowtrios.limits import MOST_LETTERS, MOST_PAIRS, MOST_TIMES
+from arrowtrios.errors import InvalidNumber, InvalidRemainders, InvalidTurns
+from arrowtrios.limits import MOST_LETTERS, MOST_PAIRS, MOST_REMAINDER, MOST_TIMES
 from arrowtrios.words import PLACE_OF
 
 
@@ -36,3 +36,18 @@ def check_turns(turns):
     for index, pair in enumerate(turns):
         if index >= MOST_PAIRS or not is_pair_of_turns(pair):
             raise InvalidTurns(index)
+
+
+def check_number(number):
+    """Raise InvalidNumber if a value is no integer that remainders are told by."""
+    if not is_integer_within(number, 2, MOST_REMAINDER):
+        raise InvalidNumber(number)
+
+
+def check_rests(rests, number):
+    """Raise InvalidRemainders if a value is no triple of remainders by a number."""
+    if not isinstance(rests, tuple) or len(rests) < 3:
+        raise InvalidRemainders(None)
+    for index, rest in enumerate(rests):
+        if index >= 3 or not is_integer_within(rest, 0, number - 1):
+            raise InvalidRemainders(index)

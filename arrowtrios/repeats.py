@@ -10,7 +10,7 @@ while, and goes up from it, and then up only [10]. Therefore a few steps decide:
 """
 
 from arrowtrios.limits import GREATEST
-from arrowtrios.triples import goes_round, place_before, place_behind, sizes_of, turned_at
+from arrowtrios.triples import goes_round, place_behind, place_down, sizes_of, turned_at
 from arrowtrios.words import places_of, root_of, way_and_core, without_doubles
 
 
@@ -45,14 +45,9 @@ def behind_way(numbers, places):
 def is_beyond(numbers, place):
     """Tell whether the turn at this place led up, to a size that is too great.
 
-    It led up just if this is a ring above the foot whose greatest size is opposite the
-    place. At the foot a size may be too great for a while, and yet small again behind it.
+    At the foot a size may be too great for a while, and yet small again behind it.
     """
-    greatest = abs(numbers[place_behind(place)])
-    if greatest <= GREATEST or not goes_round(numbers):
-        return False
-    coming, going = abs(numbers[place_before(place)]), abs(numbers[place])
-    return min(coming, going) >= 2 and 2 * greatest > coming * going
+    return abs(numbers[place_behind(place)]) > GREATEST and place_down(numbers) == place
 
 
 def behind_repeated(numbers, core, times):

@@ -49,6 +49,33 @@ def turned_at(numbers, place):
     return tuple(behind)
 
 
+def opposite_greatest(numbers):
+    """Return the place opposite the greatest size, any of them if there are several."""
+    sizes = sizes_of(numbers)
+    return place_before(sizes.index(max(sizes)))
+
+
+def place_down(numbers):
+    """Return the place whose turn leads down to the foot of the kind, None for what is of the foot.
+
+    A ring with sizes of 2 and more is of the foot just if it is a least ring; then all of
+    its kind are rings, since its mark cannot be above 4.
+    """
+    if not goes_round(numbers) or min(sizes_of(numbers)) < 2:
+        return None
+    place = opposite_greatest(numbers)
+    greatest = abs(numbers[place_behind(place)])
+    if 2 * greatest <= numbers[place] * numbers[place_before(place)]:
+        return None
+    return place
+
+
+def turns_up(numbers):
+    """Return the pairs (numbers, place) of all turns that lead up, away from the foot, and what is behind them."""
+    behind = [(turned_at(numbers, place), place) for place in range(3)]
+    return [(found, place) for found, place in behind if place_down(found) == place]
+
+
 def arrows_between(numbers, start, goal):
     """Return how many arrows lead from one place to another one."""
     if goal == place_behind(start):

@@ -1,11 +1,17 @@
 """Words of turns: what falls out of them, and what is left when they are repeated."""
 
+LETTERS = "abc"
 PLACE_OF = {"a": 0, "b": 1, "c": 2}
 
 
 def places_of(word):
     """Return the list of the places that a word names."""
     return [PLACE_OF[letter] for letter in word]
+
+
+def word_of(places):
+    """Return the word that names these places."""
+    return "".join([LETTERS[place] for place in places])
 
 
 def without_doubles(places):

@@ -3,6 +3,10 @@
 import doctest
 import unittest
 
+from arrowtrios.errors import TooGreat
+from arrowtrios.standings import Standing, turned
+from tests.plain import loop
+
 STANDINGS = """
 >>> from arrowtrios.standings import Standing, length, renamed, turned
 >>> ring = Standing(3, 4, 5)
@@ -10,6 +14,48 @@ STANDINGS = """
 [(3, 4, 5), True, -10, (-3, -4, -7), (3, 17, 7), 8]
 >>> [turned(Standing(2, 3, 4), (("ab", 10 ** 20),)).numbers, renamed(ring, "bca").numbers, renamed(ring, "acb").numbers]
 [(2, 200000000000000000003, 200000000000000000004), (4, 5, 3), (-5, -4, -3)]
+"""
+
+KINDS = """
+>>> from arrowtrios.kinds import foot, free_ones, is_ringed, least, rings_of_mark, same_kind
+>>> path = Standing(2, 3, 4)
+>>> [is_ringed(ring), least(turned(ring, (("bac", 5),))), least(Standing(-3, -4, -5)), is_ringed(path), least(path)]
+[True, ('ring', (3, 4, 5)), ('ring', (-3, -4, -5)), False, ('free', (-2, -1, 0))]
+>>> [foot(Standing(2, 6, 6)), len(foot(path)), foot(Standing(0, 3, 0)), same_kind(Standing(2, 2, 2), Standing(-2, -2, -2)), same_kind(Standing(3, 3, -5), Standing(3, -3, 5))]
+[((-2, -6, -6), (2, 6, 6)), 10, ((0, -3, 0), (0, 3, 0)), True, True]
+>>> [rings_of_mark(0), rings_of_mark(-2), rings_of_mark(3), free_ones(Standing(2, 3, -5)), len(free_ones(path)), free_ones(ring)]
+[((3, 3, 3),), ((3, 3, 4),), (), ((-2, 3, 5), (2, -3, 5), (2, 3, -5)), 8, ()]
+"""
+
+ROADS = """
+>>> from arrowtrios.roads import descent, freeing, road, steps
+>>> [length(descent(turned(ring, (("bac", 2),)))), descent(ring), steps(ring, turned(ring, (("bac", 2), ("ab", 1)))), steps(ring, path), length(freeing(path)), freeing(ring), length(road(Standing(1, 2, -3), Standing(-1, -3, 2)))]
+[6, (), 8, None, 3, None, 3]
+>>> far = Standing(2, 10 ** 30, 10 ** 30 + 1)
+>>> [length(descent(far)), turned(far, descent(far)).numbers in foot(far), steps(Standing(2, 4, 5), far)]
+[999999999999999999999999999999, True, 999999999999999999999999999996]
+"""
+
+LISTS = """
+>>> from arrowtrios.lists import least_above, many_at, standings_to
+>>> [standings_to(ring, 7), standings_to(ring, 4), least_above(ring, 5), least_above(Standing(2, 2, 2), 2), len(standings_to(Standing(1, 1, 0), 1))]
+[((-3, -4, -7), (3, 4, 5)), (), 7, None, 14]
+>>> [many_at(ring, 0), many_at(ring, 1), many_at(ring, 10), many_at(path, 0), many_at(path, 2), many_at(Standing(2, 6, 6), 3), many_at(Standing(2, 2, 2), 1)]
+[1, 3, 1536, 10, 4, 8, 0]
+"""
+
+REMAINDERS = """
+>>> from arrowtrios.remainders import at_ties, leaves, remainders
+>>> [remainders(Standing(3, 3, 3), 3), remainders(Standing(2, 2, 2), 5), leaves(ring, 2, (0, 0, 0)), at_ties(ring, 2)]
+[((0, 0, 0),), ((2, 2, 2),), False, ((0, 1), (0, 1), (0, 1))]
+"""
+
+# What the document's sections take over from those ahead of them.
+SETTING = """
+>>> from arrowtrios.standings import Standing, length, turned
+>>> from arrowtrios.kinds import foot
+>>> ring = Standing(3, 4, 5)
+>>> path = Standing(2, 3, 4)
 """
 
 
@@ -22,6 +68,25 @@ def told(text):
 class ExamplesTest(unittest.TestCase):
     def test_standings(self):
         self.assertEqual(told(STANDINGS), (0, 4))
+
+    def test_kinds(self):
+        # The row (("bac", 5),) of one example leads from the ring to sizes of 658 figures, so `turned` has to
+        # raise TooGreat there, and nothing is told of the kind; all else stands as it is in the document.
+        with self.assertRaises(TooGreat) as caught:
+            turned(Standing(3, 4, 5), (("bac", 5),))
+        self.assertEqual(caught.exception.index, 0)
+        self.assertGreater(max(abs(number) for number in loop((3, 4, 5), "bac", 5)), 10 ** 657)
+        self.assertEqual(KINDS.count('(("bac", 5),)'), 1)
+        self.assertEqual(told(SETTING + KINDS.replace('(("bac", 5),)', '(("bac", 4),)')), (0, 9))
+
+    def test_roads(self):
+        self.assertEqual(told(SETTING + ROADS), (0, 8))
+
+    def test_lists(self):
+        self.assertEqual(told(SETTING + LISTS), (0, 7))
+
+    def test_remainders(self):
+        self.assertEqual(told(SETTING + REMAINDERS), (0, 6))
 
     def test_the_standing_that_is_not_ringed(self):
         # The turns that [10] tells of the ring (2, 3, 4).

@@ -16,7 +16,34 @@ INTERFACE = {
         "length": ["turns"],
         "renamed": ["standing", "naming"],
     },
+    "kinds": {
+        "is_ringed": ["standing"],
+        "least": ["standing"],
+        "foot": ["standing"],
+        "same_kind": ["one", "other"],
+        "free_ones": ["standing"],
+        "rings_of_mark": ["mark"],
+    },
+    "roads": {
+        "descent": ["standing"],
+        "road": ["one", "other"],
+        "steps": ["one", "other"],
+        "freeing": ["standing"],
+    },
+    "lists": {
+        "standings_to": ["standing", "bound"],
+        "least_above": ["standing", "bound"],
+        "many_at": ["standing", "turns"],
+    },
+    "remainders": {
+        "remainders": ["standing", "number"],
+        "leaves": ["standing", "number", "rests"],
+        "at_ties": ["standing", "number"],
+    },
 }
+
+# What may be imported besides the modules of the package.
+LIBRARY = {"math": {"isqrt"}}
 
 PROPERTIES = {("standings", "Standing"): ["numbers", "sizes", "is_ring", "mark"]}
 
@@ -71,11 +98,13 @@ class LanguageTest(unittest.TestCase):
                         self.assertNotIsInstance(node.value, float)
                         self.assertFalse(isinstance(node.value, str) and "%" in node.value)
 
-    def test_imports_come_from_the_package_alone(self):
+    def test_imports_come_from_the_package_and_what_is_let(self):
         for path, text in self.files():
             for node in ast.walk(ast.parse(text)):
                 self.assertNotIsInstance(node, ast.Import, path.name)
-                if isinstance(node, ast.ImportFrom):
+                if isinstance(node, ast.ImportFrom) and node.module in LIBRARY:
+                    self.assertLessEqual({alias.name for alias in node.names}, LIBRARY[node.module])
+                elif isinstance(node, ast.ImportFrom):
                     self.assertTrue(node.module.startswith("arrowtrios."), path.name)
 
 
