@@ -1,4 +1,4 @@
-"""The examples of the document, as they stand there."""
+"""The examples of the document, as they stand there, but for a row in one of them that cannot hold."""
 
 import doctest
 import unittest
