@@ -50,6 +50,29 @@ REMAINDERS = """
 [((0, 0, 0),), ((2, 2, 2),), False, ((0, 1), (0, 1), (0, 1))]
 """
 
+NAMING = """
+>>> from arrowtrios.naming import naming_between, own_namings
+>>> [naming_between(ring, Standing(5, 3, 4)), naming_between(ring, path), own_namings(ring), own_namings(Standing(2, 6, 6))]
+['cab', None, ('abc',), ('abc', 'bac')]
+"""
+
+WEBS = """
+>>> from arrowtrios.webs import Web, reach
+>>> web = Web(((0, 1, 0, 0), (-1, 0, 2, 0), (0, -2, 0, 0), (0, 0, 0, 0)))
+>>> [web.turn(1).rows[0], web.turn(2).rows[1], web.kept, reach(Web(((0, 1, 0), (-1, 0, 1), (0, -1, 0)))), reach(Web(((0, 5), (-5, 0))))]
+[(0, -1, 2, 0), (-1, 0, -2, 0), (1, 1, 2, 0), 14, 2]
+"""
+
+BOARDS = """
+>>> from arrowtrios.boards import Board
+>>> board = Board(ring)
+>>> done = [board.turn("b"), board.numbers, board.turn(word="ab", times=2), board.go((("ba", 2),)), board.numbers, board.changes]
+>>> done
+[None, (-3, -4, -7), None, None, (-3, -4, -7), 3]
+>>> [board.undo(), board.undo(), board.undo(), board.numbers, board.tried(lambda held: held.turn("c")), board.changes]
+[None, None, None, (3, 4, 5), None, 0]
+"""
+
 # What the document's sections take over from those ahead of them.
 SETTING = """
 >>> from arrowtrios.standings import Standing, length, turned
@@ -87,6 +110,15 @@ class ExamplesTest(unittest.TestCase):
 
     def test_remainders(self):
         self.assertEqual(told(SETTING + REMAINDERS), (0, 6))
+
+    def test_naming(self):
+        self.assertEqual(told(SETTING + NAMING), (0, 6))
+
+    def test_webs(self):
+        self.assertEqual(told(SETTING + WEBS), (0, 7))
+
+    def test_boards(self):
+        self.assertEqual(told(SETTING + BOARDS), (0, 9))
 
     def test_the_standing_that_is_not_ringed(self):
         # The turns that [10] tells of the ring (2, 3, 4).

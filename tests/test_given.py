@@ -6,6 +6,7 @@ import unittest
 from arrowtrios.errors import InvalidBound, InvalidNumber, InvalidRemainders, NotAStanding, TooMany
 from arrowtrios.kinds import foot, free_ones, is_ringed, least, rings_of_mark, same_kind
 from arrowtrios.lists import least_above, many_at, standings_to
+from arrowtrios.naming import naming_between, own_namings
 from arrowtrios.remainders import at_ties, leaves, remainders
 from arrowtrios.roads import descent, freeing, road, steps
 from arrowtrios.standings import Standing
@@ -23,6 +24,7 @@ FUNCTIONS = [
     (many_at, {"standing": RING, "turns": 3}),
     (remainders, {"standing": RING, "number": 3}), (at_ties, {"standing": RING, "number": 3}),
     (leaves, {"standing": RING, "number": 3, "rests": (0, 1, 2)}),
+    (naming_between, {"one": UP, "other": Standing(5, 3, 4)}), (own_namings, {"standing": PATH}),
 ]
 
 NO_STANDINGS = (None, True, 0, 7, "", "abc", b"abc", (), (3, 4, 5), [3, 4, 5], {}, {"x": 3}, set(), object(), Standing,

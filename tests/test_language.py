@@ -40,12 +40,40 @@ INTERFACE = {
         "leaves": ["standing", "number", "rests"],
         "at_ties": ["standing", "number"],
     },
+    "naming": {
+        "naming_between": ["one", "other"],
+        "own_namings": ["standing"],
+    },
+    "webs": {
+        "Web": ["rows"],
+        "reach": ["web"],
+    },
+    "boards": {
+        "Board": ["standing"],
+    },
+}
+
+# (module, class): {method: names of its parameters}
+METHODS = {
+    ("webs", "Web"): {"turn": ["self", "place"]},
+    ("boards", "Board"): {
+        "turn": ["self", "word", "times"],
+        "go": ["self", "turns"],
+        "standing": ["self"],
+        "undo": ["self"],
+        "trial": ["self"],
+        "tried": ["self", "action"],
+    },
 }
 
 # What may be imported besides the modules of the package.
-LIBRARY = {"math": {"isqrt"}}
+LIBRARY = {"math": {"isqrt", "gcd"}}
 
-PROPERTIES = {("standings", "Standing"): ["numbers", "sizes", "is_ring", "mark"]}
+PROPERTIES = {
+    ("standings", "Standing"): ["numbers", "sizes", "is_ring", "mark"],
+    ("webs", "Web"): ["rows", "kept"],
+    ("boards", "Board"): ["numbers", "changes"],
+}
 
 
 class InterfaceTest(unittest.TestCase):
@@ -57,6 +85,14 @@ class InterfaceTest(unittest.TestCase):
                     thing = getattr(module, name)
                     self.assertEqual(list(inspect.signature(thing).parameters), parameters)
                     self.assertEqual(thing.__module__, module.__name__)
+
+    def test_methods_stand_in_the_class_itself(self):
+        for (module_name, class_name), methods in METHODS.items():
+            members = vars(getattr(importlib.import_module(f"arrowtrios.{module_name}"), class_name))
+            for name, parameters in methods.items():
+                with self.subTest(class_name=class_name, name=name):
+                    self.assertTrue(inspect.isfunction(members[name]))
+                    self.assertEqual(list(inspect.signature(members[name]).parameters), parameters)
 
     def test_properties_stand_in_the_class_itself(self):
         for (module_name, class_name), names in PROPERTIES.items():
