@@ -54,7 +54,7 @@ def legs_once(places):
 
 def legs_back(legs):
     """Return the legs of the way back."""
-    return [(places[::-1], times) for places, times in reversed(legs)]
+    return [(places[::-1], times) for places, times in legs[::-1]]
 
 
 def turns_in(legs):

@@ -1,6 +1,7 @@
 """The examples of the document, as they stand there, but for a row in one of them that cannot hold."""
 
 import doctest
+import pathlib
 import unittest
 
 from arrowtrios.errors import TooGreat
@@ -73,6 +74,41 @@ BOARDS = """
 [None, None, None, (3, 4, 5), None, 0]
 """
 
+# The last row of the document's example, which raises Broken(index=1), is asked by itself.
+BOOKS = """
+>>> from arrowtrios.books import Book
+>>> book = Book()
+>>> done = book.do_all(("set", "r", ring), ("set", "s", Standing(-3, -4, -7)), ("claim", ("turns", "r", "s", 1)), ("claim", ("never", "r", 2, (0, 0, 0))))
+>>> [done, book.names, book.claims[0], book.changes, book.undo(), len(book)]
+[4, ('r', 's'), ('turns', 'r', 's', 1), 4, None, 2]
+"""
+
+BROKEN = """
+>>> from arrowtrios.errors import Broken
+>>> try:
+...     book.claim(("turns", "s", "r", 0))
+... except Broken as error:
+...     error.index
+1
+"""
+
+CERTIFICATES = """
+>>> from arrowtrios.certificates import certify_kind, certify_never, certify_ring
+>>> from arrowtrios.checker import accepts
+>>> papers = [certify_ring(ring), certify_ring(path), certify_kind(ring, Standing(3, 17, 7)), certify_kind(ring, path), certify_never(ring, 2, (0, 0, 0))]
+>>> [papers[0][0], papers[1][0][0], papers[3][0][0], certify_never(ring, 2, (1, 0, 1)), accepts(("kind", (3, 4, 5), (3, 4, 5)), ())]
+[('ringed', (3, 4, 5)), 'freed', 'parted', None, True]
+>>> [accepts(papers[0][0], papers[0][1]), accepts(papers[1][0], papers[1][1]), accepts(papers[2][0], papers[2][1]), accepts(papers[3][0], papers[3][1]), accepts(papers[4][0], papers[4][1]), accepts(("freed", (3, 4, 5)), (("b", 1),))]
+[True, True, True, True, True, False]
+"""
+
+CONSOLE = """
+>>> from arrowtrios.console import Console
+>>> console = Console()
+>>> [console.say("r = 3 4 5"), console.say("s = r ba 1"), console.say("s steps r"), console.say("s least"), console.say("s kind r"), console.say("p = 2 -3 0"), console.say("p least"), console.say("p steps r")]
+['3 4 5', '3 17 7', '2', 'ring 3 4 5', 'ok', '2 -3 0', 'free -2 -3 0', 'none']
+"""
+
 # What the document's sections take over from those ahead of them.
 SETTING = """
 >>> from arrowtrios.standings import Standing, length, turned
@@ -119,6 +155,28 @@ class ExamplesTest(unittest.TestCase):
 
     def test_boards(self):
         self.assertEqual(told(SETTING + BOARDS), (0, 9))
+
+    def test_books(self):
+        self.assertEqual(told(SETTING + BOOKS + BROKEN), (0, 10))
+
+    def test_certificates(self):
+        self.assertEqual(told(SETTING + CERTIFICATES), (0, 9))
+
+    def test_console(self):
+        self.assertEqual(told(SETTING + CONSOLE), (0, 7))
+
+    def test_all_sections_behind_one_another(self):
+        kinds = KINDS.replace('(("bac", 5),)', '(("bac", 4),)')
+        text = STANDINGS + kinds + ROADS + LISTS + REMAINDERS + NAMING + WEBS + BOARDS + BOOKS + BROKEN + CERTIFICATES + CONSOLE
+        self.assertEqual(told(text)[0], 0)
+
+    def test_the_rows_of_the_document_stand_here(self):
+        document = pathlib.Path(__file__).resolve().parent.parent.parent / "shared" / "DOC.md"
+        if not document.exists():
+            self.skipTest("the document is not beside this checkout")
+        text = document.read_text(encoding="utf-8")
+        for section in (STANDINGS, KINDS, ROADS, LISTS, REMAINDERS, NAMING, WEBS, BOARDS, BOOKS, CERTIFICATES, CONSOLE):
+            self.assertIn("```" + section.rstrip(), text)
 
     def test_the_standing_that_is_not_ringed(self):
         # The turns that [10] tells of the ring (2, 3, 4).

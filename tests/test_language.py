@@ -51,6 +51,20 @@ INTERFACE = {
     "boards": {
         "Board": ["standing"],
     },
+    "books": {
+        "Book": [],
+    },
+    "checker": {
+        "accepts": ["claim", "paper"],
+    },
+    "certificates": {
+        "certify_ring": ["standing"],
+        "certify_kind": ["one", "other"],
+        "certify_never": ["standing", "number", "rests"],
+    },
+    "console": {
+        "Console": [],
+    },
 }
 
 # (module, class): {method: names of its parameters}
@@ -64,7 +78,21 @@ METHODS = {
         "trial": ["self"],
         "tried": ["self", "action"],
     },
+    ("books", "Book"): {
+        "drop": ["self", "name"],
+        "claim": ["self", "claim"],
+        "lift": ["self", "index"],
+        "undo": ["self"],
+        "do_all": ["self", "deeds", "watch"],
+        "trial": ["self"],
+        "tried": ["self", "action"],
+        "__len__": ["self"],
+    },
+    ("console", "Console"): {"say": ["self", "line"]},
 }
+
+# The methods of signs, whose parameters cannot be given by name.
+SIGNS = {("books", "Book"): ["__getitem__", "__setitem__", "__contains__"]}
 
 # What may be imported besides the modules of the package.
 LIBRARY = {"math": {"isqrt", "gcd"}}
@@ -73,6 +101,8 @@ PROPERTIES = {
     ("standings", "Standing"): ["numbers", "sizes", "is_ring", "mark"],
     ("webs", "Web"): ["rows", "kept"],
     ("boards", "Board"): ["numbers", "changes"],
+    ("books", "Book"): ["names", "claims", "changes"],
+    ("console", "Console"): ["book"],
 }
 
 
@@ -93,6 +123,9 @@ class InterfaceTest(unittest.TestCase):
                 with self.subTest(class_name=class_name, name=name):
                     self.assertTrue(inspect.isfunction(members[name]))
                     self.assertEqual(list(inspect.signature(members[name]).parameters), parameters)
+        for (module_name, class_name), names in SIGNS.items():
+            members = vars(getattr(importlib.import_module(f"arrowtrios.{module_name}"), class_name))
+            self.assertTrue(all(inspect.isfunction(members[name]) for name in names))
 
     def test_properties_stand_in_the_class_itself(self):
         for (module_name, class_name), names in PROPERTIES.items():

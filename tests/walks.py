@@ -94,3 +94,54 @@ def levels(members, many):
         seen |= behind
         told.append(behind)
     return told
+
+
+def foot_by_walk(numbers):
+    """The foot of the kind of these numbers: down by the turns that [10] tells, and then along it."""
+    while not is_at_foot(numbers):
+        sizes = [abs(number) for number in numbers]
+        # Opposite the tie x there is the place c, opposite y a, opposite z b.
+        numbers = turn(numbers, "cab"[sizes.index(max(sizes))])
+    met = {numbers}
+    latest = [numbers]
+    while latest:
+        behind = {turn(now, letter) for now in latest for letter in "abc"}
+        latest = [now for now in behind - met if is_at_foot(now)]
+        met.update(latest)
+    return met
+
+
+def is_at_foot(numbers):
+    """Whether this is free, a ring with a size 1, or a least ring."""
+    return not goes_round(numbers) or 1 in (abs(number) for number in numbers) or is_least_ring(numbers)
+
+
+def left_in_kind(numbers, number):
+    """What the sizes of the standings of a kind leave: the foot, and what is above it closed by x * y - z."""
+    foot = foot_by_walk(numbers)
+    told = {tuple(abs(size) % number for size in member) for member in foot}
+    above = []
+    for member in foot:
+        for letter in "abc":
+            behind = turn(member, letter)
+            if behind not in foot:
+                above.append((tuple(abs(size) % number for size in behind), letter))
+    seen = set()
+    while above:
+        rests, last = above.pop()
+        if (rests, last) in seen:
+            continue
+        seen.add((rests, last))
+        told.add(rests)
+        x, y, z = rests
+        further = {"a": (x, (z * x - y) % number, z), "b": (x, y, (x * y - z) % number), "c": ((y * z - x) % number, y, z)}
+        above.extend((further[letter], letter) for letter in "abc" if letter != last)
+    return told
+
+
+def turns_between(one, other):
+    """The fewest turns from the one to the other, None if there are none: for small numbers only."""
+    if foot_by_walk(one) != foot_by_walk(other):
+        return None
+    most = max(greatest(numbers) for numbers in [one, other, *foot_by_walk(one)])
+    return walk(one, most)[other]
