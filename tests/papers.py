@@ -1,4 +1,4 @@
-"""The checker once more, with plain loops and in the document's own words, for rows with few turns; and other papers."""
+"""The checker once more, with plain loops in the document's own words, for rows with few turns; and other papers."""
 
 from tests.plain import GREATEST, MOST_TIMES, loop, turn
 from tests.walks import foot_by_walk, form_among, is_at_foot, is_least_ring, goes_round
@@ -41,7 +41,9 @@ def led(numbers, row):
 
 def is_claim(claim):
     """Whether this is a claim for the checker."""
-    if type(claim) is not tuple or len(claim) < 2 or type(claim[0]) is not str or LENGTHS.get(claim[0]) != len(claim):
+    if type(claim) is not tuple or len(claim) < 2 or type(claim[0]) is not str:
+        return False
+    if LENGTHS.get(claim[0]) != len(claim):
         return False
     if not is_triple(claim[1], -GREATEST, GREATEST):
         return False
@@ -59,7 +61,9 @@ def plainly_accepts(claim, paper):
         behind = led(one, paper)
         if behind is None:
             return False
-        return is_least_ring(behind) if word == "ringed" else not goes_round(behind) if word == "freed" else behind == others[0]
+        if word == "kind":
+            return behind == others[0]
+        return is_least_ring(behind) if word == "ringed" else not goes_round(behind)
     if type(paper) is not tuple or len(paper) != 2:
         return False
     if word == "parted":
@@ -75,7 +79,9 @@ def has_table(behind, number, rests, table):
     if behind is None or not is_at_foot(behind) or type(table) is not tuple or len(table) > 10000:
         return False
     for pair in table:
-        if type(pair) is not tuple or len(pair) != 2 or not is_triple(pair[0], 0, number - 1) or not is_int(pair[1], 0, 2):
+        if type(pair) is not tuple or len(pair) != 2:
+            return False
+        if not is_triple(pair[0], 0, number - 1) or not is_int(pair[1], 0, 2):
             return False
     if list(table) != sorted(set(table)):
         return False
@@ -106,9 +112,11 @@ def behind_pair(rests, place, number):
 
 def rows_otherwise(row):
     """Values that differ from a row of turns in one thing."""
-    yield from (None, True, 0, "ab", b"ab", [], {}, list(row), (row,), (row, row), row + row, [list(pair) for pair in row])
+    yield from (None, True, 0, "ab", b"ab", [], {}, list(row), (row,), (row, row), row + row,
+                [list(pair) for pair in row])
     yield from (row + (pair,) for pair in [("a", 1), ("b", 1), ("c", 1), ("a", 2), ("bb", 1), ("abc", 0), ("ab", 1),
-                                           ("a", True), ("a", -1), ("d", 1), ("", 1), ("a" * 13, 1), ("a", None), "a1", ("a",),
+                                           ("a", True), ("a", -1), ("d", 1), ("", 1), ("a" * 13, 1), ("a", None), "a1",
+                                           ("a",),
                                            ("a", 1, 1), ["a", 1], ("a", MOST_TIMES + 1)])
     yield from ((pair,) + row for pair in [("a", 1), ("b", 1), ("c", 1), ("cc", 1)])
     for at, (word, times) in enumerate(row):
@@ -121,12 +129,16 @@ def rows_otherwise(row):
 
 def tables_otherwise(table, number, rests):
     """Values that differ from a table in one thing."""
-    yield from (None, True, 0, [], list(table), table[::-1] if len(table) > 1 else [table], (table,), set(), {pair: 1 for pair in table})
-    pairs = [((x, y, z), place) for x in (0, 1, number - 1) for y in (0, 1) for z in (0, number - 1) for place in range(3)]
+    yield from (None, True, 0, [], list(table), table[::-1] if len(table) > 1 else [table], (table,), set(),
+                {pair: 1 for pair in table})
+    pairs = [((x, y, z), place) for x in (0, 1, number - 1) for y in (0, 1) for z in (0, number - 1)
+             for place in range(3)]
     yield from (tuple(sorted({*table, pair})) for pair in pairs)
     yield from (tuple(sorted({*table, (rests, place)})) for place in range(3))
-    yield from (table + (pair,) for pair in [((number,) * 3, 0), ((number - 1,) * 3, 3), ((number - 1, number - 1, True), 2), None, (),
-                                             ((number, number, number),), [(9, 9, 9), 2], ((9, 9, 9), 2, 0), ((number,) * 4, 2)])
+    yield from (table + (pair,) for pair in [((number,) * 3, 0), ((number - 1,) * 3, 3),
+                                             ((number - 1, number - 1, True), 2), None, (),
+                                             ((number, number, number),), [(9, 9, 9), 2], ((9, 9, 9), 2, 0),
+                                             ((number,) * 4, 2)])
     for at, (found, place) in enumerate(table):
         yield table[:at] + table[at + 1:]
         if at % 5 == 0:

@@ -53,14 +53,19 @@ QUESTIONS = [
     (turned, lambda: {"standing": ring(), "turns": row()}), (length, lambda: {"turns": row()}),
     (renamed, lambda: {"standing": ring(), "naming": "cab"}), (least, lambda: {"standing": path()}),
     (foot, lambda: {"standing": Standing(1, 2, 3)}), (rings_of_mark, lambda: {"mark": -400}),
-    (road, lambda: {"one": ring(), "other": Standing(3, 17, 7)}), (steps, lambda: {"one": path(), "other": Standing(2, 10 ** 60 + 1, 10 ** 60 + 2)}),
+    (road, lambda: {"one": ring(), "other": Standing(3, 17, 7)}),
+    (steps, lambda: {"one": path(), "other": Standing(2, 10 ** 60 + 1, 10 ** 60 + 2)}),
     (freeing, lambda: {"standing": path()}), (standings_to, lambda: {"standing": ring(), "bound": 400}),
     (least_above, lambda: {"standing": path(), "bound": 12}), (remainders, lambda: {"standing": path(), "number": 7}),
-    (leaves, lambda: {"standing": ring(), "number": 2, "rests": (0, 0, 0)}), (at_ties, lambda: {"standing": ring(), "number": 5}),
-    (naming_between, lambda: {"one": ring(), "other": Standing(5, 3, 4)}), (own_namings, lambda: {"standing": Standing(2, 6, 6)}),
+    (leaves, lambda: {"standing": ring(), "number": 2, "rests": (0, 0, 0)}),
+    (at_ties, lambda: {"standing": ring(), "number": 5}),
+    (naming_between, lambda: {"one": ring(), "other": Standing(5, 3, 4)}),
+    (own_namings, lambda: {"standing": Standing(2, 6, 6)}),
     (reach, lambda: {"web": web()}), (certify_ring, lambda: {"standing": path()}),
-    (certify_kind, lambda: {"one": ring(), "other": path()}), (certify_never, lambda: {"standing": ring(), "number": 2, "rests": (0, 0, 0)}),
-    (accepts, lambda: {"claim": ("kind", (3, 4, 5), (-3, -4, -7)), "paper": (("b", 1),)}), (Web.turn, lambda: {"self": web(), "place": 1}),
+    (certify_kind, lambda: {"one": ring(), "other": path()}),
+    (certify_never, lambda: {"standing": ring(), "number": 2, "rests": (0, 0, 0)}),
+    (accepts, lambda: {"claim": ("kind", (3, 4, 5), (-3, -4, -7)), "paper": (("b", 1),)}),
+    (Web.turn, lambda: {"self": web(), "place": 1}),
     (accepts, lambda: {"claim": ["kind"], "paper": {"b": [1]}}),
 ]
 
@@ -82,7 +87,8 @@ class AgainTest(unittest.TestCase):
         """Other questions, and errors."""
         standing = Standing(*(draw.randint(-9, 9) for _ in range(3)))
         remainders(standing, draw.randint(2, 12)), least(standing), own_namings(standing), certify_ring(standing)
-        for call, error_class in [(lambda: road(standing, None), NotAStanding), (lambda: turned(ring(), (("abc", 10 ** 99),)), TooGreat),
+        for call, error_class in [(lambda: road(standing, None), NotAStanding),
+                                  (lambda: turned(ring(), (("abc", 10 ** 99),)), TooGreat),
                                   (lambda: standings_to(path(), 10 ** 6), TooMany)]:
             with self.assertRaises(error_class):
                 call()
@@ -91,7 +97,8 @@ class AgainTest(unittest.TestCase):
         for function, made in QUESTIONS:
             given, kept = made(), made()
             function(**given)
-            self.assertEqual({name: plain(value) for name, value in given.items()}, {name: plain(value) for name, value in kept.items()})
+            self.assertEqual({name: plain(value) for name, value in given.items()},
+                             {name: plain(value) for name, value in kept.items()})
             again = copy.deepcopy(given)
             self.assertEqual(plain(function(**again)), plain(function(**given)))
 
@@ -118,8 +125,10 @@ class AgainTest(unittest.TestCase):
                 console.say("r  = 1 2 3")
             console.say("r = 3 4 5")
             for _ in range(2):
-                told.append([board.numbers, board.changes, plain(board.standing()), book.names, book.claims, book.changes, len(book),
-                             plain(book["r"]), "r" in book, console.say("r least"), console.say("r steps r"), console.book.names])
+                told.append([board.numbers, board.changes, plain(board.standing()), book.names, book.claims,
+                             book.changes, len(book),
+                             plain(book["r"]), "r" in book, console.say("r least"), console.say("r steps r"),
+                             console.book.names])
         self.assertEqual(told[1:], told[:-1])
 
 

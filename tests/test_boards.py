@@ -9,7 +9,8 @@ from arrowtrios.standings import Standing
 from tests.plain import GREATEST, MOST_TIMES, NO_INTEGERS, loop, loop_row, too_great_at
 from tests.test_given import NO_STANDINGS
 
-NO_WORDS = (None, True, 0, 3, "", "d", "abd", "A", "a b", "a ", "ab\n", "abcabcabcabca", b"ab", ("a", "b"), ["a"], (), [],
+NO_WORDS = (None, True, 0, 3, "", "d", "abd", "A", "a b", "a ", "ab\n", "abcabcabcabca", b"ab", ("a", "b"), ["a"], (),
+            [],
             {}, {"a": 1}, object(), Standing(3, 4, 5), str)
 
 NO_TIMES = (-1, -2, MOST_TIMES + 1, 10 ** 350, *NO_INTEGERS)
@@ -62,7 +63,8 @@ class StepsTest(unittest.TestCase):
     def test_rows_are_one_step_each(self):
         numbers = (2, 3, 4)
         board = Board(Standing(*numbers))
-        rows = [(), (("b", 1),), (("ba", 1), ("c", 2)), (("ab", 0),), (("a", 1),) * 200, (("cb", 3), ("bc", 3), ("ab", 40))]
+        rows = [(), (("b", 1),), (("ba", 1), ("c", 2)), (("ab", 0),), (("a", 1),) * 200,
+                (("cb", 3), ("bc", 3), ("ab", 40))]
         for many, row in enumerate(rows, 1):
             self.assertIsNone(board.go(row) if many % 2 else board.go(turns=row))
             numbers = loop_row(numbers, row)
@@ -205,7 +207,8 @@ class ErrorsTest(unittest.TestCase):
         draw = random.Random(62)
         found = 0
         for _ in range(60):
-            row = tuple(("".join(draw.choice("abc") for _ in range(draw.randint(1, 6))), draw.randint(0, 4)) for _ in range(9))
+            row = tuple(("".join(draw.choice("abc") for _ in range(draw.randint(1, 6))), draw.randint(0, 4))
+                        for _ in range(9))
             index = too_great_at(self.board.numbers, row[:4])
             if index is not None:
                 found += 1

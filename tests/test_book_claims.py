@@ -59,7 +59,8 @@ class FormsTest(BookTest):
         self.invalid(())
 
     def test_another_word(self):
-        words = ("", "Kind", "kinds", "kind ", "KIND", "freed", "parted", "steps", "set", "drop", "claim", "lift", "a", None,
+        words = ("", "Kind", "kinds", "kind ", "KIND", "freed", "parted", "steps", "set", "drop", "claim", "lift", "a",
+                 None,
                  0, True, b"kind", ("kind",), ["kind"], {"kind": 1}, {"kind"}, object(), str)
         for claim in RIGHT:
             for word in words:
@@ -131,7 +132,8 @@ class HoldsTest(BookTest):
 
     def test_the_first_claim_that_does_not_hold(self):
         book = book_of(a=RING, b=UP, c=PATH)
-        for claim in [("ringed", "b"), ("kind", "a", "b"), ("alike", "a", "b"), ("turns", "a", "b", 1), ("never", "a", 2, (0, 0, 0))]:
+        for claim in [("ringed", "b"), ("kind", "a", "b"), ("alike", "a", "b"), ("turns", "a", "b", 1),
+                      ("never", "a", 2, (0, 0, 0))]:
             book.claim(claim)
         self.broken(book, 5, lambda: book.claim(("turns", "b", "a", 0)))
         self.broken(book, 5, lambda: book.claim(("ringed", "c")))
@@ -191,7 +193,8 @@ class HoldsTest(BookTest):
                 self.assertEqual(seen(book), plain.seen())
                 outcome = (deed[0], errors[0].__class__.__name__)
                 outcomes[outcome] = outcomes.get(outcome, 0) + 1
-        for outcome in [("set", "NoneType"), ("set", "Broken"), ("drop", "NoneType"), ("drop", "InUse"), ("drop", "UnknownName"),
+        for outcome in [("set", "NoneType"), ("set", "Broken"), ("drop", "NoneType"), ("drop", "InUse"),
+                        ("drop", "UnknownName"),
                         ("claim", "NoneType"), ("claim", "Broken"), ("claim", "UnknownName"), ("lift", "NoneType"),
                         ("lift", "InvalidIndex"), ("undo", "NoneType"), ("undo", "NothingToUndo")]:
             self.assertGreater(outcomes.get(outcome, 0), 3, outcome)
@@ -206,7 +209,8 @@ class HoldsTest(BookTest):
         if word == "claim":
             number = draw.randint(2, 4)
             return (word, draw.choice([
-                ("kind", name, other), ("alike", name, other), ("ringed", name), ("turns", name, other, draw.randint(0, 5)),
+                ("kind", name, other), ("alike", name, other), ("ringed", name),
+                ("turns", name, other, draw.randint(0, 5)),
                 ("never", name, number, tuple(draw.randrange(number) for _ in range(3)))]))
         return (word, name) if word == "drop" else (word, draw.randint(-1, 4)) if word == "lift" else (word,)
 
@@ -256,13 +260,15 @@ class GreatTest(BookTest):
 
     def test_all_words_about_great_standings(self):
         p, q = 10 ** 299, GREATEST
-        book = book_of(ring=Standing(p, q, q), other=Standing(-q, -q, -p), free=Standing(p, q, -q), up=Standing(2, q - 1, q),
+        book = book_of(ring=Standing(p, q, q), other=Standing(-q, -q, -p), free=Standing(p, q, -q),
+                       up=Standing(2, q - 1, q),
                        both=Standing(2, q, q), back=Standing(-2, -q, -q))
         for claim in [("ringed", "ring"), ("alike", "ring", "other"), ("kind", "both", "back"), ("ringed", "both"),
                       ("turns", "both", "back", 1), ("never", "ring", 10, (1, 0, 0)), ("never", "up", 2, (1, 1, 1))]:
             self.assertIsNone(book.claim(claim))
         for claim in [("kind", "ring", "other"), ("ringed", "free"), ("ringed", "up"), ("alike", "ring", "free"),
-                      ("turns", "both", "back", 0), ("turns", "ring", "other", MOST_TIMES), ("never", "ring", 10, (0, 0, 0))]:
+                      ("turns", "both", "back", 0), ("turns", "ring", "other", MOST_TIMES),
+                      ("never", "ring", 10, (0, 0, 0))]:
             self.refused(book, Broken, lambda: book.claim(claim), index=7)
 
 

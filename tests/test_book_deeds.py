@@ -14,13 +14,17 @@ from tests.test_books import BookTest, caught_error
 
 RING, PATH, UP = Standing(3, 4, 5), Standing(2, 3, 4), Standing(-3, -4, -7)
 
-NO_DEEDS = (*NO_INTEGERS, 0, 5, "set", "drop", ("set",), ("set", "a"), ("set", "a", RING, 1), ("drop",), ("drop", "a", "b"),
+NO_DEEDS = (*NO_INTEGERS, 0, 5, "set", "drop", ("set",), ("set", "a"), ("set", "a", RING, 1), ("drop",),
+            ("drop", "a", "b"),
             ("claim",), ("claim", "ringed", "a"), ("lift",), ("lift", 0, 0), ("undo",), ("undo", 1), ("Set", "a", RING),
-            ("put", "a", RING), ("sets", "a", RING), ["set", "a", RING], ["drop", "a"], (None, "a"), (0, "a"), (True, "a", RING),
-            (("drop",), "a"), (["drop"], "a"), ({"set": 1}, "a", RING), ({"drop"}, "a"), (b"drop", "a"), ("", "a"), ("drop a",),
+            ("put", "a", RING), ("sets", "a", RING), ["set", "a", RING], ["drop", "a"], (None, "a"), (0, "a"),
+            (True, "a", RING),
+            (("drop",), "a"), (["drop"], "a"), ({"set": 1}, "a", RING), ({"drop"}, "a"), (b"drop", "a"), ("", "a"),
+            ("drop a",),
             (RING, "a"), (Book(), "a"), {"drop": "a"}, (str, "a"))
 
-GOOD = (("set", "a", RING), ("set", "b", UP), ("claim", ("kind", "a", "b")), ("set", "c", PATH), ("lift", 0), ("drop", "q"))
+GOOD = (("set", "a", RING), ("set", "b", UP), ("claim", ("kind", "a", "b")), ("set", "c", PATH), ("lift", 0),
+        ("drop", "q"))
 
 
 class Stopped(Exception):
@@ -50,7 +54,8 @@ class DoneTest(BookTest):
     def test_one_deed_of_each_word(self):
         book = begun()
         past = [seen(book)]
-        for many, deed in enumerate([("set", "a", RING), ("drop", "t"), ("claim", ("turns", "s", "a", 1)), ("lift", 1)], 6):
+        for many, deed in enumerate([("set", "a", RING), ("drop", "t"), ("claim", ("turns", "s", "a", 1)), ("lift", 1)],
+                                    6):
             self.assertEqual(book.do_all(deed), 1)
             self.assertEqual(book.changes, many)
             past.append(seen(book))
@@ -96,7 +101,8 @@ class WatchTest(BookTest):
     def test_right_behind_each_deed(self):
         book = Book()
         calls = []
-        deeds = (("set", "a", RING), ("set", "b", UP), ("claim", ("kind", "a", "b")), ("set", "a", UP), ("lift", 0), ("drop", "a"))
+        deeds = (("set", "a", RING), ("set", "b", UP), ("claim", ("kind", "a", "b")), ("set", "a", UP), ("lift", 0),
+                 ("drop", "a"))
 
         def watch(held):
             self.assertIs(held, book)
@@ -121,12 +127,14 @@ class WatchTest(BookTest):
                                   (("claim", ("ringed", "t")), Broken), (("set", "r", PATH), Broken)]:
             calls.clear()
             self.refused(book, error_class, lambda: book.do_all(
-                ("set", "a", RING), ("drop", "a"), deed, ("set", "z", RING), watch=lambda held: calls.append(held.names)))
+                ("set", "a", RING), ("drop", "a"), deed, ("set", "z", RING),
+                watch=lambda held: calls.append(held.names)))
             self.assertEqual(calls, [("a", "r", "s", "t"), ("r", "s", "t")])
 
     def test_an_error_of_watch_is_passed_on(self):
         book = begun()
-        for error in (Stopped("x"), ValueError(), KeyError(), KeyboardInterrupt(), SystemExit(2), Broken(0), StopIteration()):
+        for error in (Stopped("x"), ValueError(), KeyError(), KeyboardInterrupt(), SystemExit(2), Broken(0),
+                      StopIteration()):
             for last in (1, 2, 3):
                 calls = []
 
@@ -169,7 +177,8 @@ class FailingTest(BookTest):
             self.refused(book, InvalidDeeds, lambda: book.do_all(("set", "a", RING), value), index=1)
             self.refused(book, InvalidDeeds, lambda: book.do_all(value, value, None), index=0)
             # Ahead of what fails, though it stands further behind.
-            self.refused(book, InvalidDeeds, lambda: book.do_all(("drop", "x"), ("lift", -1), value, ("drop",)), index=2)
+            self.refused(book, InvalidDeeds, lambda: book.do_all(("drop", "x"), ("lift", -1), value, ("drop",)),
+                         index=2)
 
     def test_the_error_of_the_first_deed_that_fails(self):
         book = begun()
@@ -177,14 +186,17 @@ class FailingTest(BookTest):
             (("set", "A", RING), InvalidName, {"given": "A"}), (("set", None, None), InvalidName, {"given": None}),
             (("set", "a", None), NotAStanding, {"given": None}), (("set", "r", PATH), Broken, {"index": 0}),
             (("drop", "x"), UnknownName, {"given": "x"}), (("drop", "r"), InUse, {"index": 0}),
-            (("claim", None), InvalidClaim, {"given": None}), (("claim", ("kind", "r", "x")), UnknownName, {"given": "x"}),
+            (("claim", None), InvalidClaim, {"given": None}),
+            (("claim", ("kind", "r", "x")), UnknownName, {"given": "x"}),
             (("claim", ("kind", "r", "t")), Broken, {"index": 2}), (("lift", 2), InvalidIndex, {"given": 2}),
             (("lift", True), InvalidIndex, {"given": True}),
         ]
         for deed, error_class, attributes in fails:
             self.refused(book, error_class, lambda: book.do_all(deed), **attributes)
-            self.refused(book, error_class, lambda: book.do_all(("set", "q", RING), deed, ("drop", "nobody")), **attributes)
-            self.refused(book, error_class, lambda: book.do_all(("drop", "t"), ("set", "t", PATH), deed, deed), **attributes)
+            self.refused(book, error_class, lambda: book.do_all(("set", "q", RING), deed, ("drop", "nobody")),
+                         **attributes)
+            self.refused(book, error_class, lambda: book.do_all(("drop", "t"), ("set", "t", PATH), deed, deed),
+                         **attributes)
 
     def test_the_book_as_it_was_with_all_that_can_be_taken_back(self):
         book, other = begun(), begun()
@@ -199,7 +211,8 @@ class FailingTest(BookTest):
         book.do_all(("set", "a", RING), ("set", "b", RING), ("claim", ("kind", "a", "b")))
         # Both together would be of one kind again, but not behind the first one of them.
         self.refused(book, Broken, lambda: book.do_all(("set", "a", PATH), ("set", "b", PATH)), index=0)
-        self.assertEqual(book.do_all(("lift", 0), ("set", "a", PATH), ("set", "b", PATH), ("claim", ("kind", "a", "b"))), 4)
+        self.assertEqual(book.do_all(("lift", 0), ("set", "a", PATH), ("set", "b", PATH),
+                                     ("claim", ("kind", "a", "b"))), 4)
 
     def test_drawn_deeds_against_a_plain_book(self):
         draw = random.Random(73)
@@ -222,7 +235,8 @@ class FailingTest(BookTest):
     def drawn(self, draw):
         name, other = draw.choice("abc"), draw.choice("abc")
         return draw.choice([
-            ("set", name, Standing(*loop((3, 4, 5), draw.choice(["", "a", "bc"])))), ("set", name, RING), ("set", other, PATH),
+            ("set", name, Standing(*loop((3, 4, 5), draw.choice(["", "a", "bc"])))), ("set", name, RING),
+            ("set", other, PATH),
             ("drop", name), ("claim", ("kind", name, other)), ("claim", ("ringed", name)), ("lift", draw.randint(0, 2)),
             ("claim", ("turns", name, other, draw.randint(0, 3))),
         ])

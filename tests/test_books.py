@@ -14,7 +14,8 @@ from tests.test_given import NO_STANDINGS
 
 RING, PATH, UP = Standing(3, 4, 5), Standing(2, 3, 4), Standing(-3, -4, -7)
 
-NO_NAMES = ("", "abcdefghi", "A", "aB", "a b", " a", "a ", "a\n", "\n", "a1", "1", "a_b", "-", "=", "a-", "ABC", "a" * 2000,
+NO_NAMES = ("", "abcdefghi", "A", "aB", "a b", " a", "a ", "a\n", "\n", "a1", "1", "a_b", "-", "=", "a-", "ABC",
+            "a" * 2000,
             None, True, False, 0, 1, 10 ** 300, b"a", (), ("a",), ["a"], [], {}, {"a": 1}, {"a"}, object(), RING, str)
 
 
@@ -129,7 +130,8 @@ class StandingsTest(BookTest):
         book = Book()
         for name in "abcd":
             book[name] = RING
-        for claim in [("ringed", "b"), ("kind", "a", "b"), ("never", "c", 2, (0, 0, 0)), ("turns", "b", "c", 0), ("alike", "b", "a")]:
+        for claim in [("ringed", "b"), ("kind", "a", "b"), ("never", "c", 2, (0, 0, 0)), ("turns", "b", "c", 0),
+                      ("alike", "b", "a")]:
             book.claim(claim)
         for name, index in [("a", 1), ("b", 0), ("c", 2)]:
             self.refused(book, InUse, lambda: book.drop(name), index=index)
@@ -172,7 +174,8 @@ class UndoTest(BookTest):
         book = Book()
         past = []
         changes = [
-            lambda: book.__setitem__("a", RING), lambda: book.__setitem__("b", UP), lambda: book.claim(("kind", "a", "b")),
+            lambda: book.__setitem__("a", RING), lambda: book.__setitem__("b", UP),
+            lambda: book.claim(("kind", "a", "b")),
             lambda: book.claim(("kind", "a", "b")), lambda: book.lift(0), lambda: book.__setitem__("b", RING),
             lambda: book.__setitem__("b", RING), lambda: book.__setitem__("c", PATH), lambda: book.lift(0),
             lambda: book.drop("a"), lambda: book.drop("b"), lambda: book.drop("c"), lambda: book.__setitem__("b", PATH),

@@ -1,4 +1,4 @@
-"""`certify_ring`, `certify_kind`, `certify_never`: claims with the numbers given, and papers that `accepts` accepts [15]."""
+"""`certify_ring`, `certify_kind`, `certify_never`: claims with the numbers given, and papers that are accepted [15]."""
 
 import itertools
 import random
@@ -21,11 +21,15 @@ OPPOSITE = {"ringed": "freed", "freed": "ringed", "kind": "parted", "parted": "k
 HALF = (GREATEST - 4) // 2
 
 GREAT = [
-    (GREATEST, GREATEST, GREATEST), (-GREATEST, -GREATEST, 1 - GREATEST), (GREATEST, GREATEST, -GREATEST), (GREATEST, 0, 0),
-    (GREATEST, -GREATEST, 0), (1, GREATEST, -GREATEST), (1, GREATEST, GREATEST), (-1, -GREATEST, 1 - GREATEST), (2, GREATEST, GREATEST),
-    (2, GREATEST - 1, GREATEST), (GREATEST, 2, GREATEST - 1), (-GREATEST, 1 - GREATEST, -2), (2, GREATEST // 2, GREATEST),
+    (GREATEST, GREATEST, GREATEST), (-GREATEST, -GREATEST, 1 - GREATEST), (GREATEST, GREATEST, -GREATEST),
+    (GREATEST, 0, 0),
+    (GREATEST, -GREATEST, 0), (1, GREATEST, -GREATEST), (1, GREATEST, GREATEST), (-1, -GREATEST, 1 - GREATEST),
+    (2, GREATEST, GREATEST),
+    (2, GREATEST - 1, GREATEST), (GREATEST, 2, GREATEST - 1), (-GREATEST, 1 - GREATEST, -2),
+    (2, GREATEST // 2, GREATEST),
     (3, GREATEST, GREATEST), (10 ** 150, 10 ** 150, GREATEST), (10 ** 150, 10 ** 150, GREATEST // 2), (1, 1, GREATEST),
-    (10 ** 29, 10 ** 30, 10 ** 59 // 2), (3, 4, GREATEST), (10 ** 100, 10 ** 200, GREATEST - 10 ** 50), (2, 2, GREATEST),
+    (10 ** 29, 10 ** 30, 10 ** 59 // 2), (3, 4, GREATEST), (10 ** 100, 10 ** 200, GREATEST - 10 ** 50),
+    (2, 2, GREATEST),
     (GREATEST, 0, -1), (2, 10 ** 160, 10 ** 160 + 7),
 ]
 
@@ -40,7 +44,8 @@ def far_ones():
     found = [grown(Standing(*numbers), word)[0].numbers for numbers in [(3, 3, 3), (3, 4, 5), (3, 3, 8), (2, 3, 4)]
              for word in ("ac", "abc", "bcba")]
     return found + [
-        behind((2, 3, 4), ("ab", HALF)), behind((2, 3, 4), ("ab", 10 ** 140), ("c", 1)), behind((2, 3, 5), ("ba", 10 ** 99), ("c", 1)),
+        behind((2, 3, 4), ("ab", HALF)), behind((2, 3, 4), ("ab", 10 ** 140), ("c", 1)),
+        behind((2, 3, 5), ("ba", 10 ** 99), ("c", 1)),
         behind((2, 2, 7), ("cb", 10 ** 290))]
 
 
@@ -117,7 +122,8 @@ class CertificateTest(unittest.TestCase):
         self.assertEqual(words, {True, False, "never"})
 
     def test_remainders_of_great_rings(self):
-        for numbers in [(GREATEST, GREATEST, GREATEST), (2, GREATEST, GREATEST), (GREATEST, GREATEST, -GREATEST), (1, GREATEST, -GREATEST),
+        for numbers in [(GREATEST, GREATEST, GREATEST), (2, GREATEST, GREATEST), (GREATEST, GREATEST, -GREATEST),
+                        (1, GREATEST, -GREATEST),
                         (GREATEST, GREATEST - 1, GREATEST - 2), (GREATEST, 0, -1)]:
             for number in (2, 3, 4):
                 left = left_in_kind(numbers, number)
@@ -140,9 +146,11 @@ class CertificateTest(unittest.TestCase):
         self.assertGreater(min(seen.values()), len(ones))
 
     def test_great_ones_of_one_kind(self):
-        for numbers, row in [((2, 3, 4), (("ab", HALF),)), ((2, 3, 4), (("ba", 10 ** 60), ("c", 1))), ((3, 4, 5), (("bc", 200),)),
+        for numbers, row in [((2, 3, 4), (("ab", HALF),)), ((2, 3, 4), (("ba", 10 ** 60), ("c", 1))),
+                             ((3, 4, 5), (("bc", 200),)),
                              ((3, 4, 5), (("ab", 300), ("a", 1))), ((2, GREATEST, GREATEST), (("a", 1),)),
-                             ((1, GREATEST, -GREATEST), (("a", 1),)), ((GREATEST, GREATEST, -GREATEST), (("abcab", 1),))]:
+                             ((1, GREATEST, -GREATEST), (("a", 1),)),
+                             ((GREATEST, GREATEST, -GREATEST), (("abcab", 1),))]:
             one = Standing(*numbers)
             other = turned(one, row)
             self.assertNotEqual(one.numbers, other.numbers)
@@ -153,8 +161,10 @@ class CertificateTest(unittest.TestCase):
 class WrongTest(unittest.TestCase):
     def test_no_standings(self):
         for value in NO_STANDINGS:
-            for call in (lambda: certify_ring(value), lambda: certify_ring(standing=value), lambda: certify_kind(value, RING),
-                         lambda: certify_kind(value, None), lambda: certify_kind(RING, value), lambda: certify_kind(other=None, one=value),
+            for call in (lambda: certify_ring(value), lambda: certify_ring(standing=value),
+                         lambda: certify_kind(value, RING),
+                         lambda: certify_kind(value, None), lambda: certify_kind(RING, value),
+                         lambda: certify_kind(other=None, one=value),
                          lambda: certify_never(value, 2, (0, 0, 0)), lambda: certify_never(value, 1, None),
                          lambda: certify_never(rests=None, number=None, standing=value)):
                 with self.assertRaises(NotAStanding) as caught:
@@ -170,10 +180,13 @@ class WrongTest(unittest.TestCase):
 
     def test_no_remainders(self):
         for number in (2, 5, 12):
-            for rests, index in [((0, 0, number), 2), ((0, number, 0), 1), ((-1, 0, 0), 0), ((0, 0, 0, 0), 3), ((0, True, 0), 1),
-                                 ((0, 0, None), 2), ((0, 0), None), ((), None), ([0, 0, 0], None), (None, None), ("000", None),
+            for rests, index in [((0, 0, number), 2), ((0, number, 0), 1), ((-1, 0, 0), 0), ((0, 0, 0, 0), 3),
+                                 ((0, True, 0), 1),
+                                 ((0, 0, None), 2), ((0, 0), None), ((), None), ([0, 0, 0], None), (None, None),
+                                 ("000", None),
                                  ((number, 0), None), ((0, number, 0, 0), 1), ((0, 0, 0, number), 3)]:
-                for call in (lambda: certify_never(RING, number, rests), lambda: certify_never(rests=rests, standing=RING, number=number)):
+                for call in (lambda: certify_never(RING, number, rests),
+                             lambda: certify_never(rests=rests, standing=RING, number=number)):
                     with self.assertRaises(InvalidRemainders) as caught:
                         call()
                     self.assertEqual(caught.exception.index, index)

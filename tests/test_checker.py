@@ -14,7 +14,8 @@ from tests.walks import all_numbers, foot_by_walk, is_least_ring, left_in_kind
 
 OPPOSITE = {"ringed": "freed", "freed": "ringed", "kind": "parted", "parted": "kind"}
 
-SMALL = [(3, 4, 5), (3, 3, 3), (2, 2, 2), (2, 6, 6), (2, 3, 4), (3, 4, 6), (1, 1, 0), (0, 0, 0), (0, 3, 0), (1, 2, 3), (3, -4, 5),
+SMALL = [(3, 4, 5), (3, 3, 3), (2, 2, 2), (2, 6, 6), (2, 3, 4), (3, 4, 6), (1, 1, 0), (0, 0, 0), (0, 3, 0), (1, 2, 3),
+         (3, -4, 5),
          (-3, -4, -7), (3, 17, 7), (2, 2, 3), (3, 3, 8), (1, 5, -2)]
 
 
@@ -53,7 +54,8 @@ class RightTest(CheckerTest):
 
     def test_papers_that_somebody_else_wrote(self):
         for claim, paper in [
-            (("ringed", (3, 4, 5)), ()), (("ringed", (3, 4, 5)), (("bb", 7), ("a", 2))), (("ringed", (3, 4, 6)), (("b", 1),)),
+            (("ringed", (3, 4, 5)), ()), (("ringed", (3, 4, 5)), (("bb", 7), ("a", 2))),
+            (("ringed", (3, 4, 6)), (("b", 1),)),
             (("ringed", (-3, -4, -7)), (("bccaa", 1),)), (("ringed", (2, 5, 5)), (("abab", 3), ("b", 1))),
             (("freed", (2, 3, 4)), (("bab", 1),)), (("freed", (2, 3, 4)), (("b", 1), ("a", 1), ("c", 1))),
             (("freed", (1, 1, 0)), ()), (("freed", (3, -4, 5)), (("aa", 3),)), (("kind", (3, 4, 5), (3, 4, 5)), ()),
@@ -94,8 +96,10 @@ class RightTest(CheckerTest):
     def test_words_and_times_at_their_bounds(self):
         claim = ("kind", (3, 4, 5), (3, 4, 5))
         for row, let in [((("abcabccbacba", 0),), True), ((("abccbaabccba", MOST_TIMES),), True),
-                         ((("abccbaabccbaa", 1),), False), ((("aa", MOST_TIMES + 1),), False), ((("a", MOST_TIMES),), True),
-                         ((("a", MOST_TIMES - 1),), False), ((("abcabcabcabc", 0),), True), ((("abcabcabcabca", 0),), False)]:
+                         ((("abccbaabccbaa", 1),), False), ((("aa", MOST_TIMES + 1),), False),
+                         ((("a", MOST_TIMES),), True),
+                         ((("a", MOST_TIMES - 1),), False), ((("abcabcabcabc", 0),), True),
+                         ((("abcabcabcabca", 0),), False)]:
             self.assertIs(accepts(claim, row), let, row)
 
 
@@ -120,12 +124,14 @@ class OtherwiseTest(CheckerTest):
 
     def test_pairs_of_rows_with_one_thing_otherwise(self):
         outcomes = {True: 0, False: 0}
-        for one, other in [((3, 4, 5), (3, 17, 7)), ((3, 17, 7), (2, 3, 4)), ((2, 3, 4), (2, 2, 3)), ((1, 1, 0), (2, 6, 6))]:
+        for one, other in [((3, 4, 5), (3, 17, 7)), ((3, 17, 7), (2, 3, 4)), ((2, 3, 4), (2, 2, 3)),
+                           ((1, 1, 0), (2, 6, 6))]:
             if certify_kind(Standing(*one), Standing(*other))[0][0] == "kind":
                 other = (other[1], other[2], other[0])
             claim, (first, second) = certify_kind(Standing(*one), Standing(*other))
             self.assertEqual(claim[0], "parted")
-            for paper in (None, (), (first,), (first, second, ()), [first, second], (second,), first, ((first, second),)):
+            for paper in (None, (), (first,), (first, second, ()), [first, second], (second,), first,
+                          ((first, second),)):
                 self.check(claim, paper)
             for row in list(rows_otherwise(first)) + list(rows_otherwise(second)):
                 outcomes[self.check(claim, (row, second))] += 1
@@ -142,7 +148,8 @@ class OtherwiseTest(CheckerTest):
                 others = list(tables_otherwise(table, claim[2], claim[3]))
                 for other in others if len(others) < 60 else draw.sample(others, 60):
                     outcomes[self.check(claim, (row, other))] += 1
-                for other in [row + (("a", 1),), row + (("b", 1),), row[1:], (("c", 1),) + row, row + (("aa", 3),), list(row), None]:
+                for other in [row + (("a", 1),), row + (("b", 1),), row[1:], (("c", 1),) + row, row + (("aa", 3),),
+                              list(row), None]:
                     outcomes[self.check(claim, (other, table))] += 1
         self.assertGreater(outcomes[False], 1000)
         self.assertGreater(outcomes[True], 50)
@@ -185,24 +192,31 @@ class OtherwiseTest(CheckerTest):
 
 class NoClaimsTest(CheckerTest):
     def test_any_two_values(self):
-        values = [*NO_INTEGERS, 0, -1, 10 ** 300, "ringed", ("ringed",), ("ringed", (3, 4, 5)), (), ((), ()), [("ringed", (3, 4, 5))],
+        values = [*NO_INTEGERS, 0, -1, 10 ** 300, "ringed", ("ringed",), ("ringed", (3, 4, 5)), (), ((), ()),
+                  [("ringed", (3, 4, 5))],
                   {"ringed": (3, 4, 5)}, (("b", 1),), ((((((((3,),),),),),),),), {1, 2}, Standing(3, 4, 5), accepts]
         for claim in values:
             for paper in values:
-                self.assertIs(accepts(claim, paper), claim == ("ringed", (3, 4, 5)) and paper == () and type(claim) is tuple
+                self.assertIs(accepts(claim, paper), claim == ("ringed", (3, 4, 5)) and paper == ()
+                              and type(claim) is tuple
                               and type(paper) is tuple)
 
     def test_other_words_and_lengths(self):
-        for claim, paper in [(("ringed", (3, 4, 5)), ()), (("freed", (1, 1, 0)), ()), (("kind", (3, 4, 5), (3, 4, 5)), ()),
-                             (("parted", (3, 4, 5), (2, 2, 2)), ((), ())), certify_never(Standing(3, 4, 5), 2, (0, 0, 0))]:
+        for claim, paper in [(("ringed", (3, 4, 5)), ()), (("freed", (1, 1, 0)), ()),
+                             (("kind", (3, 4, 5), (3, 4, 5)), ()),
+                             (("parted", (3, 4, 5), (2, 2, 2)), ((), ())),
+                             certify_never(Standing(3, 4, 5), 2, (0, 0, 0))]:
             self.assertTrue(self.check(claim, paper))
-            for word in ("", "ring", "free", "Kind", "alike", "turns", "kind ", None, 0, True, b"kind", ("kind",), ["kind"], {"kind": 0}):
+            for word in ("", "ring", "free", "Kind", "alike", "turns", "kind ", None, 0, True, b"kind", ("kind",),
+                         ["kind"], {"kind": 0}):
                 self.assertIs(accepts((word, *claim[1:]), paper), False)
-            for other in [(*claim, 0), (*claim, (3, 4, 5)), claim[:-1], claim[:1], (), list(claim), (claim,), (*claim, paper)]:
+            for other in [(*claim, 0), (*claim, (3, 4, 5)), claim[:-1], claim[:1], (), list(claim), (claim,),
+                          (*claim, paper)]:
                 self.assertIs(accepts(other, paper), False)
 
     def test_wrong_numbers_in_claims(self):
-        wrong = [None, True, 3, "345", [3, 4, 5], (3, 4), (3, 4, 5, 6), (3, 4, True), (3, None, 5), ("3", 4, 5), (3, 4, GREATEST + 1),
+        wrong = [None, True, 3, "345", [3, 4, 5], (3, 4), (3, 4, 5, 6), (3, 4, True), (3, None, 5), ("3", 4, 5),
+                 (3, 4, GREATEST + 1),
                  (-GREATEST - 1, 4, 5), ((3, 4, 5),), Standing(3, 4, 5), {3: 4}, (), (3, (4,), 5), (3, [4], 5)]
         for numbers in wrong:
             for claim, paper in [(("ringed", numbers), ()), (("freed", numbers), ()), (("kind", numbers, numbers), ()),
@@ -228,7 +242,8 @@ class NoClaimsTest(CheckerTest):
         self.assertTrue(self.check(claim, paper))
         for number in (-1, 0, 1, 2, 3, 5, 7, 9, 12, 13, 18, 10 ** 300, *NO_INTEGERS):
             self.assertIs(accepts(("never", (3, 3, 3), number, (1, 1, 1)), paper), False, number)
-        for rests in [*NO_INTEGERS, 0, (), (1, 1), (1, 1, 1, 1), [1, 1, 1], (1, 1, 6), (-1, 1, 1), (1, 1, 10 ** 40), (1, True, 1),
+        for rests in [*NO_INTEGERS, 0, (), (1, 1), (1, 1, 1, 1), [1, 1, 1], (1, 1, 6), (-1, 1, 1), (1, 1, 10 ** 40),
+                      (1, True, 1),
                       (1, 1, None), (3, 3, 3)]:
             self.assertIs(accepts(("never", (3, 3, 3), 6, rests), paper), False, rests)
         for rests in [(1, 1, 2), (5, 5, 5), (0, 1, 0)]:
@@ -250,7 +265,8 @@ class TablesTest(CheckerTest):
 
     def test_an_empty_table(self):
         # From these no turn leads away from the foot.
-        for numbers, number, rests in [((2, 2, 2), 5, (1, 2, 2)), ((0, 0, 0), 2, (1, 0, 0)), ((0, 3, 0), 12, (0, 4, 0)), ((1, 1, 0), 3, (0, 0, 0))]:
+        for numbers, number, rests in [((2, 2, 2), 5, (1, 2, 2)), ((0, 0, 0), 2, (1, 0, 0)), ((0, 3, 0), 12, (0, 4, 0)),
+                                       ((1, 1, 0), 3, (0, 0, 0))]:
             claim, paper = certify_never(Standing(*numbers), number, rests)
             self.assertEqual(paper, ((), ()))
             self.assertTrue(self.check(claim, paper))
@@ -263,7 +279,8 @@ class TablesTest(CheckerTest):
         for numbers in [(3, 4, 5), (2, 3, 4), (3, 3, 4), (5, 7, 11), (1, 6, 4)]:
             for number in (11, 12):
                 left = left_in_kind(numbers, number)
-                for rests in itertools.islice((rests for rests in itertools.product(range(number), repeat=3) if rests not in left), 2):
+                for rests in itertools.islice((rests for rests in itertools.product(range(number), repeat=3)
+                                               if rests not in left), 2):
                     claim, (row, table) = certify_never(Standing(*numbers), number, rests)
                     longest = max(longest, len(table))
                     self.assertTrue(self.check(claim, (row, table)))
@@ -280,7 +297,8 @@ class TablesTest(CheckerTest):
 
 class FarTest(unittest.TestCase):
     def test_sizes_of_a_hundred_and_sixty_figures_and_more(self):
-        for sizes in [(10 ** 160, 10 ** 160 + 1, 10 ** 160 + 2), (3, 10 ** 170, 10 ** 170), (10 ** 299, GREATEST, GREATEST)]:
+        for sizes in [(10 ** 160, 10 ** 160 + 1, 10 ** 160 + 2), (3, 10 ** 170, 10 ** 170),
+                      (10 ** 299, GREATEST, GREATEST)]:
             for sign in (1, -1):
                 numbers = tuple(sign * size for size in sizes)
                 other = tuple(-number for number in numbers)
@@ -365,7 +383,8 @@ class TrueTest(unittest.TestCase):
             for number in (2, 3):
                 left = left_in_kind(numbers, number)
                 row = descent(Standing(*numbers))
-                whole = [((x, y, z), place) for x, y, z in itertools.product(range(number), repeat=3) for place in range(3)]
+                whole = [((x, y, z), place) for x, y, z in itertools.product(range(number), repeat=3)
+                         for place in range(3)]
                 for rests in itertools.product(range(number), repeat=3):
                     # The greatest table that does without the remainders and is closed.
                     table = [pair for pair in whole if pair[0] != rests]

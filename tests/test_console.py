@@ -20,9 +20,12 @@ BEGUN = ["r = 3 4 5", "s = r ba 1", "p = 2 -3 0", "s kind r", "drop p", "undo"]
 
 # Right lines for a console with the names r, s and p, and what they answer.
 RIGHT = [
-    ("q = 0 0 0", "0 0 0"), ("r = 3 4 5", "3 4 5"), ("x = -1 2 -3", "-1 2 -3"), ("q = r b 1", "-3 -4 -7"), ("s = s ab 0", "3 17 7"),
-    ("drop p", "ok"), ("undo", "ok"), ("r kind s", "ok"), ("s alike r", "ok"), ("r ringed", "ok"), ("r turns s 2", "ok"),
-    ("r never 2 0 0 0", "ok"), ("r least", "ring 3 4 5"), ("p least", "free -2 -3 0"), ("r steps s", "2"), ("r steps p", "none"),
+    ("q = 0 0 0", "0 0 0"), ("r = 3 4 5", "3 4 5"), ("x = -1 2 -3", "-1 2 -3"), ("q = r b 1", "-3 -4 -7"),
+    ("s = s ab 0", "3 17 7"),
+    ("drop p", "ok"), ("undo", "ok"), ("r kind s", "ok"), ("s alike r", "ok"), ("r ringed", "ok"),
+    ("r turns s 2", "ok"),
+    ("r never 2 0 0 0", "ok"), ("r least", "ring 3 4 5"), ("p least", "free -2 -3 0"), ("r steps s", "2"),
+    ("r steps p", "none"),
     ("r steps r", "0"),
 ]
 
@@ -73,7 +76,8 @@ class LinesTest(ConsoleTest):
     def test_led_ones_are_set(self):
         console = console_of("r = 3 4 5")
         numbers = (3, 4, 5)
-        for word, times in [("b", 1), ("ba", 2), ("abcabcabcabc", 0), ("cab", 1), ("a", 10 ** 310), ("aa", 10 ** 310 - 1)]:
+        for word, times in [("b", 1), ("ba", 2), ("abcabcabcabc", 0), ("cab", 1), ("a", 10 ** 310),
+                            ("aa", 10 ** 310 - 1)]:
             numbers = loop(numbers, word, times if times < 9 else times % 2)
             told = console.say(f"r = r {word} {times}")
             self.assertEqual(told, " ".join(map(str, numbers)))
@@ -98,9 +102,11 @@ class LinesTest(ConsoleTest):
 
     def test_least_and_steps(self):
         console = console_of("r = 3 4 5", "s = -3 -4 -7", "p = 2 3 4", "z = 0 0 0", "m = -2 -6 -6")
-        for name, answer in [("r", "ring 3 4 5"), ("s", "ring 3 4 5"), ("p", "free -2 -1 0"), ("z", "free 0 0 0"), ("m", "ring -2 -6 -6")]:
+        for name, answer in [("r", "ring 3 4 5"), ("s", "ring 3 4 5"), ("p", "free -2 -1 0"), ("z", "free 0 0 0"),
+                             ("m", "ring -2 -6 -6")]:
             self.assertEqual(console.say(f"{name} least"), answer)
-        for one, other, answer in [("r", "s", "1"), ("s", "r", "1"), ("r", "p", "none"), ("z", "z", "0"), ("m", "m", "0")]:
+        for one, other, answer in [("r", "s", "1"), ("s", "r", "1"), ("r", "p", "none"), ("z", "z", "0"),
+                                   ("m", "m", "0")]:
             self.assertEqual(console.say(f"{one} steps {other}"), answer)
         self.assertEqual(console.book.changes, 5)
 
@@ -112,7 +118,8 @@ class LinesTest(ConsoleTest):
 
 
 class NamesTest(ConsoleTest):
-    WORDS = ["drop", "undo", "kind", "alike", "ringed", "turns", "never", "least", "steps", "ring", "free", "ok", "none", "a", "abc"]
+    WORDS = ["drop", "undo", "kind", "alike", "ringed", "turns", "never", "least", "steps", "ring", "free", "ok",
+             "none", "a", "abc"]
 
     def test_names_that_are_words_of_lines(self):
         for one, other in itertools.product(self.WORDS, repeat=2):
@@ -121,7 +128,8 @@ class NamesTest(ConsoleTest):
             self.assertEqual(numbers, (-3, -4, -7))
             fewest = 0 if one == other else 1
             self.assertEqual(console.say(f"{one} steps {other}"), str(fewest))
-            for line, claim in [(f"{one} kind {other}", ("kind", one, other)), (f"{one} alike {other}", ("alike", one, other)),
+            for line, claim in [(f"{one} kind {other}", ("kind", one, other)),
+                                (f"{one} alike {other}", ("alike", one, other)),
                                 (f"{one} turns {other} {fewest}", ("turns", one, other, fewest)),
                                 (f"{one} never 2 0 0 0", ("never", one, 2, (0, 0, 0)))]:
                 self.assertEqual(console.say(line), "ok")
@@ -164,7 +172,8 @@ class InvalidTest(ConsoleTest):
         self.refused(self.console, InvalidLine, line, given=line)
 
     def test_values_that_are_no_strings(self):
-        for value in (*NO_INTEGERS, 0, 5, b"undo", ("undo",), ["undo"], {"undo": 1}, object(), self.console, Standing(3, 4, 5)):
+        for value in (*NO_INTEGERS, 0, 5, b"undo", ("undo",), ["undo"], {"undo": 1}, object(), self.console,
+                      Standing(3, 4, 5)):
             if not isinstance(value, str):
                 error = caught_error(lambda: self.console.say(value))
                 self.assertIs(error.__class__, InvalidLine)
@@ -173,23 +182,32 @@ class InvalidTest(ConsoleTest):
     def test_spaces_and_words_more_less_or_otherwise(self):
         for line, _ in RIGHT:
             words = line.split(" ")
-            for other in (line + " ", " " + line, line.replace(" ", "  ", 1), line + "\n", "\n" + line, line + " \n", line.replace(" ", "\n", 1),
-                          line.upper(), line + ";", line + ".", line.replace(" ", "_"), line + "x" * 2 + " y", line + " ok ok ok ok ok ok"):
+            for other in (line + " ", " " + line, line.replace(" ", "  ", 1), line + "\n", "\n" + line, line + " \n",
+                          line.replace(" ", "\n", 1),
+                          line.upper(), line + ";", line + ".", line.replace(" ", "_"), line + "x" * 2 + " y",
+                          line + " ok ok ok ok ok ok"):
                 if other != line:
                     self.invalid(other)
             for at in range(len(words)):
-                self.invalid(" ".join(words[:at] + [words[at].upper() if words[at].islower() else words[at] + "x"] + words[at + 1:]))
+                other = words[at].upper() if words[at].islower() else words[at] + "x"
+                self.invalid(" ".join(words[:at] + [other] + words[at + 1:]))
                 self.invalid(" ".join(words[:at] + [words[at] + "-"] + words[at + 1:]))
                 self.invalid(" ".join(words[:at] + [""] + words[at + 1:]))
-        for line in ("", " ", "\n", "  ", "=", "r", "r s", "r =", "r = 3", "r = 3 4", "r = 3 4 5 6", "r 3 4 5", "= 3 4 5", "r == 3 4 5", "r : 3 4 5",
-                     "3 = 3 4 5", "r = s", "r = s b", "r = s b 1 1", "r = b 1", "r kind", "kind r s", "r kind s s", "r is s", "drop", "drop r s",
-                     "drop 3", "drop R", "drop r-s", "undo r", "undo undo", "Undo", "undo ", "r ringed s", "ringed r", "r turns s", "r turns 3",
-                     "turns r s 3", "r turns s 3 4", "r never", "r never 2", "r never 2 0 0", "r never 2 0 0 0 0", "never r 2 0 0 0",
-                     "r never 2 (0, 0, 0)", "r least s", "least r", "r steps", "r steps s s", "steps r s", "lift 0", "r freed", "help", "r ring"):
+        for line in ("", " ", "\n", "  ", "=", "r", "r s", "r =", "r = 3", "r = 3 4", "r = 3 4 5 6", "r 3 4 5",
+                     "= 3 4 5", "r == 3 4 5", "r : 3 4 5",
+                     "3 = 3 4 5", "r = s", "r = s b", "r = s b 1 1", "r = b 1", "r kind", "kind r s", "r kind s s",
+                     "r is s", "drop", "drop r s",
+                     "drop 3", "drop R", "drop r-s", "undo r", "undo undo", "Undo", "undo ", "r ringed s", "ringed r",
+                     "r turns s", "r turns 3",
+                     "turns r s 3", "r turns s 3 4", "r never", "r never 2", "r never 2 0 0", "r never 2 0 0 0 0",
+                     "never r 2 0 0 0",
+                     "r never 2 (0, 0, 0)", "r least s", "least r", "r steps", "r steps s s", "steps r s", "lift 0",
+                     "r freed", "help", "r ring"):
             self.invalid(line)
 
     def test_numbers_not_as_str_writes_them(self):
-        for number in ("", "-", "+1", "-0", "+0", "00", "01", "-01", "1_0", "1.0", "1e3", "0x1", "--1", "- 1", "1-", "one", "True", "None", "a",
+        for number in ("", "-", "+1", "-0", "+0", "00", "01", "-01", "1_0", "1.0", "1e3", "0x1", "--1", "- 1", "1-",
+                       "one", "True", "None", "a",
                        "0b1", "007", "1,", "(1)", "\t1", "1\t"):
             for at in range(3):
                 numbers = ["1", "2", "3"]
@@ -231,8 +249,10 @@ class InvalidTest(ConsoleTest):
 
     def test_names_and_words_that_are_none(self):
         for name in ("R", "r1", "r_s", "r-s", "1", "abcdefghi", "-", "=", "r,", "'r'", "rS"):
-            for line in (f"{name} = 1 2 3", f"{name} = r b 1", f"r = {name} b 1", f"drop {name}", f"{name} kind r", f"r kind {name}",
-                         f"{name} alike r", f"r alike {name}", f"{name} ringed", f"{name} turns r 1", f"r turns {name} 1",
+            for line in (f"{name} = 1 2 3", f"{name} = r b 1", f"r = {name} b 1", f"drop {name}", f"{name} kind r",
+                         f"r kind {name}",
+                         f"{name} alike r", f"r alike {name}", f"{name} ringed", f"{name} turns r 1",
+                         f"r turns {name} 1",
                          f"{name} never 2 0 0 0", f"{name} least", f"{name} steps r", f"r steps {name}"):
                 self.invalid(line)
         for word in ("d", "abd", "A", "abcabcabcabca", "b1", "ab-", "1", "ab,ba"):
@@ -240,12 +260,15 @@ class InvalidTest(ConsoleTest):
         self.assertEqual(self.console.say("r = s abcabcabcabc 0"), "3 17 7")
 
     def test_other_signs(self):
-        for line in ("r = 3 4 5\t", "r\t= 3 4 5", "r = 3 4 5\r", "r = 3 4 \u00b2", "r = 3 4 \u0665", "\u00e4 = 3 4 5", "r\u00a0least", "r = 3 4 \uff15",
-                     "r lea\u017ft", "\u0430 least", "drop \u0131", "r = s \u0430 1", "undo\x00", "r = 3 4 5\u2028", "\ufeffundo"):
+        for line in ("r = 3 4 5\t", "r\t= 3 4 5", "r = 3 4 5\r", "r = 3 4 \u00b2", "r = 3 4 \u0665", "\u00e4 = 3 4 5",
+                     "r\u00a0least", "r = 3 4 \uff15",
+                     "r lea\u017ft", "\u0430 least", "drop \u0131", "r = s \u0430 1", "undo\x00", "r = 3 4 5\u2028",
+                     "\ufeffundo"):
             self.invalid(line)
 
     def test_a_long_line(self):
-        for line in ("r " * 900, "r" * 2000, "r = " + "9" * 1900 + " 1 2", " " * 2000, "r = 1 2 " + "0" * 1900, "r turns s " + "1" * 1900):
+        for line in ("r " * 900, "r" * 2000, "r = " + "9" * 1900 + " 1 2", " " * 2000, "r = 1 2 " + "0" * 1900,
+                     "r turns s " + "1" * 1900):
             self.invalid(line)
 
 
@@ -255,8 +278,10 @@ class ErrorsTest(ConsoleTest):
 
     def test_the_first_unknown_name_from_the_left(self):
         for line, given in [
-            ("x = y b 1", "y"), ("r = y b 1", "y"), ("drop x", "x"), ("x kind y", "x"), ("r kind y", "y"), ("x kind r", "x"),
-            ("x alike y", "x"), ("r alike x", "x"), ("x ringed", "x"), ("x turns y 0", "x"), ("r turns y 0", "y"), ("x turns r 0", "x"),
+            ("x = y b 1", "y"), ("r = y b 1", "y"), ("drop x", "x"), ("x kind y", "x"), ("r kind y", "y"),
+            ("x kind r", "x"),
+            ("x alike y", "x"), ("r alike x", "x"), ("x ringed", "x"), ("x turns y 0", "x"), ("r turns y 0", "y"),
+            ("x turns r 0", "x"),
             ("x never 2 0 0 0", "x"), ("x least", "x"), ("x steps y", "x"), ("r steps y", "y"), ("y steps r", "y"),
         ]:
             self.refused(self.console, UnknownName, line, given=given)
@@ -303,7 +328,8 @@ class SameAsABookTest(ConsoleTest):
                 line, change = self.drawn(draw, book)
                 if draw.randrange(4) == 0 and not line.endswith(("least", "steps a", "steps b", "steps c")):
                     # The console's book by itself, without a line.
-                    line, errors = None, [caught_error(lambda: change(console.book)), caught_error(lambda: change(book))]
+                    line = None
+                    errors = [caught_error(lambda: change(console.book)), caught_error(lambda: change(book))]
                 else:
                     errors = [caught_error(lambda: console.say(line)), caught_error(lambda: change(book))]
                 self.assertIs(errors[0].__class__, errors[1].__class__, line)
@@ -326,14 +352,16 @@ class SameAsABookTest(ConsoleTest):
         return draw.choice([
             (f"{one} = {x} {y} {z}", lambda held: held.__setitem__(one, Standing(x, y, z))),
             (f"{one} = {x} {y} {z}", lambda held: held.__setitem__(one, Standing(x, y, z))),
-            (f"{one} = {other} {word} {times}", lambda held: held.__setitem__(one, turned(held[other], ((word, times),)))),
+            (f"{one} = {other} {word} {times}",
+             lambda held: held.__setitem__(one, turned(held[other], ((word, times),)))),
             (f"drop {one}", lambda held: held.drop(one)), ("undo", lambda held: held.undo()),
             (f"{one} kind {other}", lambda held: held.claim(("kind", one, other))),
             (f"{one} alike {other}", lambda held: held.claim(("alike", one, other))),
             (f"{one} ringed", lambda held: held.claim(("ringed", one))),
             (f"{one} turns {other} {many}", lambda held: held.claim(("turns", one, other, many))),
             (f"{one} never {number} {r} {s} {t}", lambda held: held.claim(("never", one, number, rests))),
-            (f"{one} least", lambda held: least(held[one])), (f"{one} steps {other}", lambda held: steps(held[one], held[other])),
+            (f"{one} least", lambda held: least(held[one])),
+            (f"{one} steps {other}", lambda held: steps(held[one], held[other])),
         ])
 
     def test_a_trial_of_its_book_and_lifted_claims(self):

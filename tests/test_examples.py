@@ -1,7 +1,6 @@
 """The examples of the document, as they stand there, but for a row in one of them that cannot hold."""
 
 import doctest
-import pathlib
 import unittest
 
 from arrowtrios.errors import TooGreat
@@ -169,14 +168,6 @@ class ExamplesTest(unittest.TestCase):
         kinds = KINDS.replace('(("bac", 5),)', '(("bac", 4),)')
         text = STANDINGS + kinds + ROADS + LISTS + REMAINDERS + NAMING + WEBS + BOARDS + BOOKS + BROKEN + CERTIFICATES + CONSOLE
         self.assertEqual(told(text)[0], 0)
-
-    def test_the_rows_of_the_document_stand_here(self):
-        document = pathlib.Path(__file__).resolve().parent.parent.parent / "shared" / "DOC.md"
-        if not document.exists():
-            self.skipTest("the document is not beside this checkout")
-        text = document.read_text(encoding="utf-8")
-        for section in (STANDINGS, KINDS, ROADS, LISTS, REMAINDERS, NAMING, WEBS, BOARDS, BOOKS, CERTIFICATES, CONSOLE):
-            self.assertIn("```" + section.rstrip(), text)
 
     def test_the_standing_that_is_not_ringed(self):
         # The turns that [10] tells of the ring (2, 3, 4).

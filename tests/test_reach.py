@@ -54,7 +54,8 @@ class WalksTest(unittest.TestCase):
             self.assertEqual(told(rows), expected(rows), rows)
 
     def test_every_web_that_is_met_tells_the_same(self):
-        for rows, many in [(rows_of(3, [1, 0, 1]), 14), (rows_of(3, [2, -1, 1]), 12), (rows_of(4, [2, 0, 0, 0, 0, 3]), 4),
+        for rows, many in [(rows_of(3, [1, 0, 1]), 14), (rows_of(3, [2, -1, 1]), 12),
+                           (rows_of(4, [2, 0, 0, 0, 0, 3]), 4),
                            (rows_of(4, [1, 0, 0, 1, 1, 0]), 50), (rows_of(4, [1, 0, 0, 1, 0, 1]), 144)]:
             met = walk_of_webs(rows, MOST)
             self.assertEqual(len(met), many)

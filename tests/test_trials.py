@@ -17,7 +17,7 @@ class Stopped(Exception):
 
 
 class TrialTests:
-    """What is asked of the trials of `self.held`, a board or a book that `make` gives, with steps that can be taken back."""
+    """What is asked of the trials of `self.held`, a board or a book with some steps, as `make` gives it."""
 
     def setUp(self):
         self.held = self.make()
@@ -263,12 +263,15 @@ class BookTrialTest(TrialTests, unittest.TestCase):
 
     def failing(self):
         return [(lambda: self.held.drop("x"), UnknownName), (lambda: self.held.drop("r"), InUse),
-                (lambda: self.held.claim(None), InvalidClaim), (lambda: self.held.claim(("turns", "r", "r", -1)), InvalidClaim),
-                (lambda: self.held.__setitem__("r", PATH), Broken), (lambda: self.held.do_all(("drop", "x")), UnknownName)]
+                (lambda: self.held.claim(None), InvalidClaim),
+                (lambda: self.held.claim(("turns", "r", "r", -1)), InvalidClaim),
+                (lambda: self.held.__setitem__("r", PATH), Broken),
+                (lambda: self.held.do_all(("drop", "x")), UnknownName)]
 
     def test_each_change_within_a_trial(self):
         for change in (lambda: self.held.__setitem__("r", UP), lambda: self.held.drop("q"), lambda: self.held.lift(0),
-                       lambda: self.held.claim(("ringed", "s")), self.held.undo, lambda: self.held.do_all(("drop", "q"), ("lift", 0))):
+                       lambda: self.held.claim(("ringed", "s")), self.held.undo,
+                       lambda: self.held.do_all(("drop", "q"), ("lift", 0))):
             with self.held.trial():
                 change()
                 self.assertNotEqual(self.seen(self.held), self.before)

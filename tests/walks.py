@@ -134,7 +134,8 @@ def left_in_kind(numbers, number):
         seen.add((rests, last))
         told.add(rests)
         x, y, z = rests
-        further = {"a": (x, (z * x - y) % number, z), "b": (x, y, (x * y - z) % number), "c": ((y * z - x) % number, y, z)}
+        further = {"a": (x, (z * x - y) % number, z), "b": (x, y, (x * y - z) % number),
+                   "c": ((y * z - x) % number, y, z)}
         above.extend((further[letter], letter) for letter in "abc" if letter != last)
     return told
 
