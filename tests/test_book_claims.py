@@ -2,6 +2,7 @@
 
 import random
 import unittest
+from unittest.mock import ANY
 
 from arrowtrios.books import Book
 from arrowtrios.errors import Broken, InvalidClaim, InvalidIndex, UnknownName
@@ -61,7 +62,7 @@ class FormsTest(BookTest):
     def test_another_word(self):
         words = ("", "Kind", "kinds", "kind ", "KIND", "freed", "parted", "steps", "set", "drop", "claim", "lift", "a",
                  None,
-                 0, True, b"kind", ("kind",), ["kind"], {"kind": 1}, {"kind"}, object(), str)
+                 0, True, b"kind", ("kind",), ["kind"], {"kind": 1}, {"kind"}, object(), str, ANY)
         for claim in RIGHT:
             for word in words:
                 self.invalid((word, *claim[1:]))

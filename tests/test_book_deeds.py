@@ -2,6 +2,7 @@
 
 import random
 import unittest
+from unittest.mock import ANY
 
 from arrowtrios.books import Book
 from arrowtrios.errors import (
@@ -21,7 +22,7 @@ NO_DEEDS = (*NO_INTEGERS, 0, 5, "set", "drop", ("set",), ("set", "a"), ("set", "
             (True, "a", RING),
             (("drop",), "a"), (["drop"], "a"), ({"set": 1}, "a", RING), ({"drop"}, "a"), (b"drop", "a"), ("", "a"),
             ("drop a",),
-            (RING, "a"), (Book(), "a"), {"drop": "a"}, (str, "a"))
+            (RING, "a"), (Book(), "a"), {"drop": "a"}, (str, "a"), (ANY, "a"), (ANY, "a", RING))
 
 GOOD = (("set", "a", RING), ("set", "b", UP), ("claim", ("kind", "a", "b")), ("set", "c", PATH), ("lift", 0),
         ("drop", "q"))

@@ -3,6 +3,7 @@
 import itertools
 import random
 import unittest
+from unittest.mock import ANY
 
 from arrowtrios.certificates import certify_kind, certify_never, certify_ring
 from arrowtrios.checker import accepts
@@ -208,7 +209,7 @@ class NoClaimsTest(CheckerTest):
                              certify_never(Standing(3, 4, 5), 2, (0, 0, 0))]:
             self.assertTrue(self.check(claim, paper))
             for word in ("", "ring", "free", "Kind", "alike", "turns", "kind ", None, 0, True, b"kind", ("kind",),
-                         ["kind"], {"kind": 0}):
+                         ["kind"], {"kind": 0}, ANY):
                 self.assertIs(accepts((word, *claim[1:]), paper), False)
             for other in [(*claim, 0), (*claim, (3, 4, 5)), claim[:-1], claim[:1], (), list(claim), (claim,),
                           (*claim, paper)]:
@@ -224,6 +225,9 @@ class NoClaimsTest(CheckerTest):
                                  (("parted", numbers, (3, 4, 5)), ((), ())), (("parted", (3, 4, 5), numbers), ((), ())),
                                  (("never", numbers, 2, (0, 0, 0)), ((), ()))]:
                 self.assertIs(accepts(claim, paper), False, claim)
+        for numbers in [ANY, (ANY, ANY, ANY)]:
+            # What is equal to all values is no triple for all that.
+            self.assertIs(accepts(("kind", (3, 4, 5), numbers), ()), False)
         self.assertIs(accepts(("kind", (1, 0, 1), (1, 0, True)), ()), False)
         self.assertIs(accepts(("kind", (True, 0, 1), (1, 0, 1)), ()), False)
 
