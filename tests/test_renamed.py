@@ -2,6 +2,7 @@
 
 import itertools
 import unittest
+from unittest.mock import ANY
 
 from arrowtrios.errors import InvalidNaming, NotAStanding
 from arrowtrios.standings import Standing, renamed
@@ -13,6 +14,7 @@ NO_NAMINGS = (
     "", "a", "ab", "aab", "aaa", "abb", "abcd", "abca", "abd", "ABC", "Abc", "a b c", " abc", "abc ", "abc\n", "012",
     "a" * 2000, None, True, False, 0, 1, b"abc", (), ("a", "b", "c"), ("abc",), [], ["a", "b", "c"], ["abc"], {},
     {"abc": 1}, set("abc"), object(), Standing(3, 4, 5), str,
+    ANY,
 )
 
 
